@@ -25,8 +25,7 @@ def measure(side, place):
 
 def let_go(side, place):
     """What lies below a place is acked."""
-    kept = min(len(side.unacked), max(0, side.last - place))
-    side.unacked = side.unacked[len(side.unacked) - kept:]
+    side.unacked = side.unacked[place - side.unacked_place():]
     side.first = place
     side.next_place = max(side.next_place, place)
     side.held = [one for one in side.held if one[1] > place]

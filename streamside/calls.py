@@ -92,8 +92,11 @@ def take_come(side, sender, now, given):
     return [0]
 
 
-def why_not_write(side):
-    """The refusal of a side that takes no more to be sent, or 0."""
+def go_on_to_write(side, now):
+    """Time goes on; the refusal of a side that takes nothing more to be sent, or 0."""
+    if not is_time(now):
+        return MAY_NOT_BE
+    go_on(side, now)
     if side.phase == NO_PHASE or side.phase == WAITS:
         return WRONG_PHASE
     if side.phase == LINGERS or side.phase == IS_OVER or side.closing:
@@ -102,10 +105,7 @@ def why_not_write(side):
 
 
 def write(side, now, given):
-    if not is_time(now):
-        return [MAY_NOT_BE]
-    go_on(side, now)
-    refusal = why_not_write(side)
+    refusal = go_on_to_write(side, now)
     if refusal < 0:
         return [refusal]
     written = side.last - 1
@@ -133,10 +133,7 @@ def read(side, now, most):
 
 
 def close(side, now):
-    if not is_time(now):
-        return [MAY_NOT_BE]
-    go_on(side, now)
-    refusal = why_not_write(side)
+    refusal = go_on_to_write(side, now)
     if refusal < 0:
         return [refusal]
     side.closing = True

@@ -58,6 +58,6 @@ def with_piece(pieces, place, data):
         elif piece[0] > place + len(data):
             above.append(piece)
         else:
-            data = data[:max(0, piece[0] - place)] + piece[1] + data[max(0, behind - place):]
+            data = data[:max(0, piece[0] - place)] + piece[1] + data[behind - place:]
             place = min(place, piece[0])
     return below + [(place, data)] + above

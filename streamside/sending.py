@@ -65,7 +65,7 @@ def begin(side):
 
 
 def bytes_from(side, place, count):
-    at = place - (side.last - len(side.unacked))
+    at = place - side.unacked_place()
     return side.unacked[at:at + count]
 
 
@@ -150,7 +150,6 @@ def send_anew(side):
     place = behind_ranges(side.held, max(side.first, side.anew))
     if not may_be_sent_anew(side, place):
         return
-    side.time_nothing()
     count = up_to_range(side.held, place, min(MOST_DATA, side.last - place, side.top - place))
     with_end = side.closing and place + count == side.last and side.top > side.last
     side.anew = send_bytes(side, place, count, with_end)

@@ -88,6 +88,10 @@ class Side:
         """Whether both bases are known and it isn't over."""
         return HAS_ANSWERED <= self.phase <= LINGERS
 
+    def unacked_place(self):
+        """The place of the first byte that isn't acked, or would be if there were one."""
+        return self.last - len(self.unacked)
+
     def hear(self):
         self.heard = self.now
         self.askings = 0

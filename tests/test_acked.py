@@ -179,7 +179,7 @@ class Wide(SideTest):
     def test_slow_after_time_ran_out(self):
         line = flowing(5600)
         line.pass_on(1300)
-        line.hear(1310, 1, 5601)
+        self.assert_nothing(line.hear(1310, 1, 5601))
         # 1400 and 1400 more; then it isn't below slow any more: 700 more, then 560.
         self.assertEqual(still_free(line, 1320), 2800)
         line.write(1400, text(5601, 1400))
@@ -364,19 +364,26 @@ class Mending(SideTest):
         # That was all of it.
         self.assert_nothing(line.hear(1100, 1, 1401))
 
+    def test_bytes_ahead_of_the_end_are_sent_anew_without_it(self):
+        line = flowing(2800)
+        line.close(1010)
+        for _ in range(2):
+            line.hear(1100, 1, 1)
+        self.assert_places(line.hear(1100, 1, 1), [(1, 1401)])
+        self.assert_places(line.hear(1150, 1, 1401), [(1401, 2802)])
+
     def test_end_that_was_not_sent_is_not_sent_anew(self):
-        line = flowing(2800)
-        line.pass_on(1300)
-        self.assert_nothing(line.close(1310))
-        line.hear(1320, 1, 1)
-        line.hear(1320, 1, 1)
-        # Mending makes it wide enough for the end.
-        self.assert_places(line.hear(1320, 1, 1), [(1, 1401), (1401, 2802)])
-        line = flowing(2800)
-        line.hear(1010, 1, 1)
-        line.hear(1010, 1, 1)
-        line.hear(1010, 1, 1)
-        self.assert_places(line.hear(1050, 1, 1401), [(1401, 2801)])
+        line = flowing(15400)
+        for acked in (1401, 2801, 4201, 5601):
+            line.hear(1050, 1, acked)
+        self.assert_places(line.pass_on(1500), [(5601, 7001)])
+        self.assert_nothing(line.close(1510))
+        for _ in range(3):
+            answer = line.hear(1520, 1, 5601)
+        # 9100 wide: from 5601 up to 14701.
+        again = [(5601, 7001), (7001, 8401), (8401, 9801), (9801, 11201), (11201, 12601), (12601, 14001), (14001, 14701)]
+        self.assert_places(answer, again)
+        self.assert_places(line.hear(1530, 1, 14001), [(14001, 15401), (14701, 15402)])
 
     def test_no_more_than_was_sent_is_sent_anew(self):
         line = opened(window=10)
@@ -433,8 +440,24 @@ class Held(SideTest):
         # No range is held, so it's sent anew from the first on.
         self.assert_places(self.same_acks(line, 3, [], 2801), [(2801, 4201)])
 
+    def test_range_acked_in_part_is_held(self):
+        line = flowing(5600)
+        self.same_acks(line, 1, [(1401, 4201)])
+        line.hear(1110, 1, 2000)
+        self.assert_nothing(self.same_acks(line, 3, [], 2000))
+        self.assert_places(self.same_acks(line, 1, [(4301, 5601)], 2000), [(4201, 4301)])
+
+    def test_mending_anew_begins_at_the_first_place(self):
+        line = flowing(15000)
+        self.same_acks(line, 3, [])
+        self.same_acks(line, 2, [])
+        # Up to 9801 it was sent. A gap above what's mended is sent anew, too.
+        self.assert_places(self.same_acks(line, 1, [(1401, 7001), (8401, 9801)]), [(7001, 8401), (9801, 11201)])
+        self.assert_nothing(line.hear(1150, 1, 5601))
+        self.assert_places(self.same_acks(line, 3, [], 5601), [(7001, 8401), (11201, 12601)])
+
     def test_ranges_that_make_no_sense(self):
-        wrong = [(1, 1401), (0, 2801), (-5, 2801), (2801, 5602), (2801, 2801), (4201, 2801), (2801, 2801 + 2 ** 31)]
+        wrong = [(1, 1401), (0, 2801), (-5, 2801), (2801, 5602), (2801, 2801), (4201, 2801), (2801, 2801 + 2 ** 31), (2801, -5)]
         for one in wrong:
             line = flowing(5600)
             self.assert_places(self.same_acks(line, 3, [one]), [(1, 1401)])

@@ -292,9 +292,14 @@ class Taken(SideTest):
 
     def test_end_above_the_edge_is_not_known(self):
         line = opened()
-        line.hear(200, EDGE - 1, 1, ACKS | END, FULL, data=b"ab")
-        answer = line.hear(200, EDGE - 1, 1, ACKS | END, FULL, data=b"a")
+        answer = line.hear(200, EDGE - 1, 1, ACKS | END, FULL, data=b"ab")
         self.assert_ack(answer, 1, 1, FULL, [(EDGE - 1, EDGE)])
+        for place in range(1, EDGE - 1, 1400):
+            line.hear(200, place, 1, window=FULL, data=bytes(min(1400, EDGE - 1 - place)))
+        self.assertEqual(line.read(300).number, 65536)
+        # Another end is told now, so that's where it is.
+        line.hear(310, EDGE, 1, ACKS | END, FULL)
+        self.assert_nothing(line.read(320), -6)
 
     def test_wanted_above_the_edge_leaves_no_window(self):
         # 65536 bytes unread, and the end right at the edge.

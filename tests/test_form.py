@@ -137,8 +137,7 @@ class Form(unittest.TestCase):
                 if isinstance(node, ast.arg) or isinstance(node, ast.Name) and isinstance(node.ctx, ast.Store):
                     name = node.arg if isinstance(node, ast.arg) else node.id
                     self.assertNotIn(name, dir(builtins), path)
-                    if isinstance(node, ast.arg):
-                        self.assertNotIn(name, top, path)
+                    self.assertNotIn(name, top, path)
                 elif isinstance(node, ast.Name) and node.id in dir(builtins):
                     self.assertIn(node.id, BUILT_IN, path)
 

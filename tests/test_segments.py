@@ -60,6 +60,8 @@ class Form(SideTest):
         # 1 + 2 + 3 + 2 leave 0xFFF7.
         self.assertEqual(sum_of(1, 2, [0xFF, 0xF7]), 0xFFFF)
         self.assertEqual(sum_of(1, 2, [0xFF, 0xF6]), 1)
+        # 0x10000 is 1, with what's carried.
+        self.assertEqual(sum_of(1, 2, [0xFF, 0xF8]), 0xFFFE)
 
     def test_sum_is_over_how_many_bytes(self):
         self.assertEqual(sum_of(1, 2, [0] * 300), sum_of(1, 2, [0] * 20) - 280)
@@ -89,6 +91,7 @@ class NoSegment(SideTest):
         self.taken(whole)
 
     def test_unknown_flags(self):
+        self.refused(packed(THEM, ME, PORTS, OTHER_BASE, 0, 16))
         self.refused(packed(THEM, ME, PORTS, OTHER_BASE, 0, 16 | BEGIN))
         self.refused(packed(THEM, ME, PORTS, OTHER_BASE, 0, 128 | BEGIN))
 

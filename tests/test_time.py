@@ -2,10 +2,10 @@
 
 import unittest
 
-from streamside.calls import begin_side, close, read, take_come, write
+from streamside.calls import begin_side, close, read, take_come, wait_for_begin, write
 from streamside.state import Side
-from tests.helper import (ACKS, BASE, BEGIN, END, FULL, ME, MINE, THEIRS, THEM, Heard, SideTest, from_other, heard, opened,
-                          text, unpacked)
+from tests.helper import (ACKS, BASE, BEGIN, END, FULL, ME, MINE, RESET, THEIRS, THEM, Heard, SideTest, from_other, heard,
+                          opened, text, unpacked)
 
 
 class Due(SideTest):
@@ -169,6 +169,77 @@ class Due(SideTest):
         line.write(2 ** 62, b"abc")
         self.assert_nothing(line.pass_on(2 ** 62), 0)
         self.assert_nothing(line.pass_on(2 ** 62 + 1), -1)
+
+
+class Over(SideTest):
+    """What a side knows when it's over, and when it's new."""
+
+    def busy(self):
+        """A side with something of everything, over by a reset."""
+        side = kept_up(7)
+        write(side, 200, list(text(1, 9000)))
+        for ranges in ([(1401, 2801)], [(1401, 4201)], [(1401, 4201)]):
+            take_come(side, THEM, 300, from_other(1, 1, ACKS, 0, ranges))
+        take_come(side, THEM, 310, from_other(1, 1402, ACKS, 0, data=b"abc"))
+        take_come(side, THEM, 320, from_other(9, 1402, ACKS | END, 0, data=b"abc"))
+        close(side, 330)
+        take_come(side, THEM, 340, from_other(4, 1402, ACKS, 0, data=b"d"))
+        take_come(side, THEM, 350, from_other(5, 1402, RESET))
+        side.out = []
+        return side
+
+    def test_nothing_is_due_timed_or_owed(self):
+        side = self.busy()
+        self.assertEqual((side.phase, side.why), (6, 2))
+        self.assertEqual((side.due, side.timed_place, side.owed), (None, 0, 0))
+
+    def test_ack_that_was_owed_is_not_said(self):
+        side = kept_up(0)
+        take_come(side, THEM, 200, from_other(1, 1, ACKS, 0, data=b"abc"))
+        write(side, 210, [1])
+        take_come(side, THEM, 220, from_other(4, 1, ACKS, 0, data=b"abc"))
+        self.assertEqual((side.owed, side.timed_place, side.due), (1, 2, 510))
+        take_come(side, THEM, 230, from_other(7, 1, RESET))
+        self.assertEqual((side.phase, side.why), (6, 2))
+        self.assertEqual((side.due, side.timed_place, side.owed), (None, 0, 0))
+
+    def test_reset_of_a_begin(self):
+        side = Side()
+        begin_side(side, ME, MINE, THEM, THEIRS, BASE, 0)
+        take_come(side, THEM, 100, from_other(0, 1, RESET | ACKS))
+        self.assertEqual((side.phase, side.why, side.due, side.timed_place), (6, 2, None, 0))
+
+    def test_both_ended(self):
+        side = kept_up(0)
+        take_come(side, THEM, 200, from_other(1, 1, ACKS | END))
+        close(side, 210)
+        take_come(side, THEM, 220, from_other(2, 2))
+        self.assertEqual((side.phase, side.why), (6, 1))
+
+    def test_values_at_first(self):
+        side = Side()
+        self.assertEqual(wait_for_begin(side, ME, MINE, BASE, 77), [0])
+        self.assertEqual((side.phase, side.why, side.now), (1, 0, 77))
+        self.assertEqual((side.first, side.next_place, side.top, side.room, side.last), (0, 0, 0, 0, 1))
+        self.assertEqual((side.wide, side.slow, side.wait), (5600, 1048576, 1000))
+        self.assertEqual((side.wanted, side.edge, side.owed, side.due), (0, 0, 0, None))
+        self.assertEqual((side.same, side.mending, side.anew, side.tries, side.timed_place), (0, 0, 0, 0, 0))
+        side = Side()
+        begin_side(side, ME, MINE, THEM, THEIRS, BASE, 77)
+        self.assertEqual((side.phase, side.first, side.next_place, side.top, side.last), (2, 0, 1, 1, 1))
+        self.assertEqual((side.due, side.timed_place, side.timed_since), (1077, 1, 77))
+
+    def test_new_side_keeps_time_alone(self):
+        new = Side()
+        self.assertEqual(wait_for_begin(new, 3, 4, 5, 1000), [0])
+        old = self.busy()
+        self.assertEqual(wait_for_begin(old, 3, 4, 5, 1000), [0])
+        self.assertEqual(vars(old), vars(new))
+        first = Side()
+        begin_side(first, 3, 4, 5, 6, 7, 1000)
+        again = self.busy()
+        begin_side(again, 3, 4, 5, 6, 7, 1000)
+        self.assertEqual(vars(again), vars(first))
 
 
 class Lingering(SideTest):
