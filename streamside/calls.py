@@ -1,10 +1,10 @@
 """The calls: each answers a list of a number and, if that is no refusal, what else is told."""
 
 from streamside.coming import come
-from streamside.segment import read_segment
-from streamside.sending import begin, edge_has_moved, say_ack, send_all
-from streamside.state import HAS_BEGUN, IS_OVER, LINGERS, NO_PHASE, WAITS
-from streamside.timing import go_on
+from streamside.segment import RESET, read_segment
+from streamside.sending import begin, edge_has_moved, say, say_ack, send_all
+from streamside.state import HAS_BEGUN, IS_OVER, LINGERS, NO_PHASE, RESET_HERE, WAITS
+from streamside.timing import go_on, times_due
 
 MAY_NOT_BE = -1
 NOT_THE_STREAMS = -2
@@ -16,6 +16,7 @@ MOST_ADDRESS = 4294967294
 MOST_PORT = 65535
 MOST_BASE = 4294967295
 MOST_TIME = 4611686018427387904
+MOST_KEPT = 2147483648
 MOST_UNACKED = 65536
 MOST_WRITTEN = 1073741824
 
@@ -139,3 +140,45 @@ def close(side, now):
     side.closing = True
     send_all(side)
     return [0]
+
+
+def reset(side, now):
+    if not is_time(now):
+        return [MAY_NOT_BE]
+    go_on(side, now)
+    if is_idle(side) or side.phase == LINGERS:
+        return [WRONG_PHASE]
+    if side.is_linked():
+        say(side, side.top, RESET, [])
+    side.finish(RESET_HERE)
+    return [0]
+
+
+def tick(side, now):
+    if not is_time(now):
+        return [MAY_NOT_BE]
+    go_on(side, now)
+    return [0]
+
+
+def keep_up(side, now, time):
+    if not (is_time(now) and 0 <= time <= MOST_KEPT):
+        return [MAY_NOT_BE]
+    go_on(side, now)
+    side.kept = time
+    side.hear()
+    return [0]
+
+
+def tell_due(side):
+    times = times_due(side)
+    if not times:
+        return [0]
+    return [1, min(times)]
+
+
+def tell_all(side):
+    sent = [side.last - 1, len(side.unacked), side.first, side.next_place, side.top, side.room]
+    pace = [side.wide, side.slow, side.wait]
+    taken = [side.wanted, len(side.unread), side.edge, len(side.pieces), 1 if side.has_ended else 0]
+    return [0, side.phase, side.why] + sent + pace + taken

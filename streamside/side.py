@@ -1,6 +1,7 @@
 """The calls on one side, laid out in one list, and their answers in another."""
 
-from streamside.calls import begin_side, close, read, take_come, wait_for_begin, write
+from streamside.calls import begin_side, close, keep_up, read, reset, take_come
+from streamside.calls import tell_all, tell_due, tick, wait_for_begin, write
 from streamside.state import Side
 
 BEGIN_SIDE = 1
@@ -9,9 +10,13 @@ TAKE_COME = 3
 WRITE = 4
 READ = 5
 CLOSE = 6
+RESET_SIDE = 7
+TICK = 8
+KEEP_UP = 9
+TELL_DUE = 10
 
 # How many whole numbers each call has ahead of its row, if it has one.
-NUMBERS = {1: 6, 2: 4, 3: 2, 4: 1, 5: 2, 6: 1}
+NUMBERS = {1: 6, 2: 4, 3: 2, 4: 1, 5: 2, 6: 1, 7: 1, 8: 1, 9: 2, 10: 0, 11: 0}
 WITH_ROW = (3, 4)
 
 
@@ -26,7 +31,17 @@ def answer_of(side, call, numbers, row):
         return write(side, numbers[0], row)
     if call == READ:
         return read(side, numbers[0], numbers[1])
-    return close(side, numbers[0])
+    if call == CLOSE:
+        return close(side, numbers[0])
+    if call == RESET_SIDE:
+        return reset(side, numbers[0])
+    if call == TICK:
+        return tick(side, numbers[0])
+    if call == KEEP_UP:
+        return keep_up(side, numbers[0], numbers[1])
+    if call == TELL_DUE:
+        return tell_due(side)
+    return tell_all(side)
 
 
 def laid_out(segments):

@@ -15,12 +15,16 @@ def go_on(side, now):
     side.now = max(side.now, now)
     if side.phase == LINGERS and side.now >= side.lingers_until:
         side.finish(BOTH_ENDED)
-    if side.is_linked() and side.owed == 1 and side.now >= side.ack_due:
+    if owes_later(side) and side.now >= side.ack_due:
         say_ack(side)
     if side.due is not None and side.now >= side.due:
         do_what_is_due(side)
     if is_to_ask(side):
         ask(side)
+
+
+def owes_later(side):
+    return side.is_linked() and side.owed == 1
 
 
 def do_what_is_due(side):
@@ -71,10 +75,16 @@ def start_over(side):
         send_one_byte(side)
 
 
-def is_to_ask(side):
+def asking_time(side):
+    """When it will ask whether the other is still there, or None."""
     if side.kept == 0 or side.phase != IS_OPEN or side.first != side.top:
-        return False
-    return side.now >= side.heard + side.kept + ASKING_TIME * side.askings
+        return None
+    return side.heard + side.kept + ASKING_TIME * side.askings
+
+
+def is_to_ask(side):
+    time = asking_time(side)
+    return time is not None and side.now >= time
 
 
 def ask(side):
@@ -84,3 +94,16 @@ def ask(side):
     side.askings += 1
     # A place the other has already: it answers with an ack.
     say(side, side.top - 1, 0, [])
+
+
+def times_due(side):
+    """All the times at which something is due."""
+    times = []
+    if side.phase == LINGERS:
+        times.append(side.lingers_until)
+    if owes_later(side):
+        times.append(side.ack_due)
+    for time in (side.due, asking_time(side)):
+        if time is not None:
+            times.append(time)
+    return times

@@ -15,8 +15,7 @@ FULL = 1024
 Seen = namedtuple("Seen", "to ports number acked flags window ranges data")
 Answer = namedtuple("Answer", "number told sent")
 Heard = namedtuple("Heard", "place acked flags window ranges data")
-
-NUMBERS = {1: 6, 2: 4, 3: 2, 4: 1, 5: 2, 6: 1}
+Told = namedtuple("Told", "phase why written unacked first next top room wide slow wait wanted unread edge pieces ended")
 
 
 def checksum(sender, receiver, raw):
@@ -55,14 +54,22 @@ def unpacked(sender, receiver, raw):
     return Seen(receiver, (from_port, to_port), number, acked, flags, window, ranges, data)
 
 
+def told_behind(call, number):
+    """How many numbers are told behind the one that a call answers."""
+    if call == 5:
+        return max(0, number)
+    if call == 10:
+        return number
+    return 16 if call == 11 else 0
+
+
 def one_answer(call, numbers, me):
     """The answer to a call, taken apart; it must be as long as it says."""
     number = numbers[0]
     at = 1
-    told = []
-    if call == 5 and number > 0:
-        told = numbers[1:1 + number]
-        at += number
+    more = told_behind(call, number)
+    told = numbers[at:at + more]
+    at += more
     sent = []
     count = numbers[at]
     at += 1
@@ -117,6 +124,29 @@ class Line:
     def close(self, now):
         return self.add(6, (now,))
 
+    def reset(self, now):
+        return self.add(7, (now,))
+
+    def tick(self, now):
+        return self.add(8, (now,))
+
+    def keep(self, now, time):
+        return self.add(9, (now, time))
+
+    def due(self):
+        """The time that due tells, or None; the line stays as it is."""
+        answer = self.last_of(10, self.asked(10, (), None))
+        if answer.sent or answer.number not in (0, 1):
+            raise AssertionError("due answers otherwise")
+        return answer.told[0] if answer.number else None
+
+    def told(self):
+        """What told tells; the line stays as it is."""
+        answer = self.last_of(11, self.asked(11, (), None))
+        if answer.sent or answer.number != 0:
+            raise AssertionError("told answers otherwise")
+        return Told(*answer.told)
+
     def peek(self, now):
         """What time alone would send; the line stays as it is."""
         return self.last_of(5, self.asked(5, (now, 0), None))
@@ -163,6 +193,20 @@ def answered(window=FULL, now=0):
     line.wait(now=now)
     line.hear(now, 0, None, BEGIN, window)
     return line
+
+
+def lines_by_phase():
+    """A line in each of the phases, before time 1000."""
+    waits = Line()
+    waits.wait()
+    begun = Line()
+    begun.begin()
+    lingers = opened()
+    lingers.close(110)
+    lingers.hear(120, 1, 2, ACKS | END)
+    over = opened()
+    over.hear(110, 1, 1, RESET)
+    return {0: Line(), 1: waits, 2: begun, 3: answered(), 4: opened(), 5: lingers, 6: over}
 
 
 class SideTest(unittest.TestCase):

@@ -96,6 +96,17 @@ class BadLine:
         elif answer[0] == -6:
             end.end_seen = True
 
+    def tick(self, most):
+        """Time alone, and what comes."""
+        while self.now < most:
+            self.now += STEP
+            self.deliver()
+            for who in (0, 1):
+                self.ask(who, 8, (self.now,))
+
+    def phases(self):
+        return [(end.side.phase, end.side.why) for end in self.ends]
+
     def run(self, most):
         while self.now < most:
             self.now += STEP
@@ -192,6 +203,61 @@ class TwoSides(unittest.TestCase):
         line = self.talk(95, loss=1.0)
         self.assertEqual([line.ends[0].side.phase, line.ends[0].side.why], [6, 3])
         self.assertEqual(line.ends[1].side.phase, 1)
+
+    def kept_up(self, times, loss):
+        line = BadLine(96, loss, 0.1, 200, 0.0, texts_of(96, 0, 0), (7, 9))
+        line.begin()
+        line.tick(30000)
+        self.assertEqual(line.phases(), [(4, 0), (4, 0)])
+        for who in (0, 1):
+            line.ask(who, 9, (line.now, times[who]))
+        return line
+
+    def test_kept_up(self):
+        """Askings are answered, and so nobody is over while somebody's there."""
+        line = self.kept_up((500, 3000), 0.1)
+        line.tick(400000)
+        self.assertEqual(line.phases(), [(4, 0), (4, 0)])
+        line.loss = 1.0
+        line.tick(520000)
+        self.assertEqual(line.phases(), [(6, 3), (6, 3)])
+
+    def test_one_alone_is_kept_up(self):
+        line = self.kept_up((5000, 0), 0.0)
+        line.tick(200000)
+        line.loss = 1.0
+        line.tick(400000)
+        self.assertEqual(line.phases(), [(6, 3), (4, 0)])
+
+    def test_reset_ends_both(self):
+        line = self.kept_up((0, 0), 0.0)
+        self.assertEqual(line.ask(0, 7, (line.now,)), [0])
+        line.tick(line.now + 1000)
+        self.assertEqual(line.phases(), [(6, 4), (6, 2)])
+
+    def test_reset_that_is_lost(self):
+        """The other is still there, asks, and hears nobody."""
+        line = self.kept_up((0, 5000), 0.0)
+        line.loss = 1.0
+        line.ask(0, 7, (line.now,))
+        line.loss = 0.0
+        line.tick(line.now + 56000)
+        self.assertEqual(line.phases(), [(6, 4), (6, 3)])
+
+    def test_begin_again_behind_a_reset(self):
+        line = self.kept_up((0, 0), 0.0)
+        line.ask(0, 7, (line.now,))
+        line.tick(line.now + 1000)
+        line.bases = (1000, 2 ** 32 - 5)
+        for end, whole in zip(line.ends, texts_of(97, 5000, 6000)):
+            end.left, end.whole = list(whole), list(whole)
+        line.loss = 0.05
+        line.begin()
+        line.run(3000000)
+        self.assertTrue(line.is_sound())
+        self.assert_all_read(line)
+        for end in line.ends:
+            self.assertEqual(answers(end.calls), end.told)
 
 
 if __name__ == "__main__":

@@ -3,7 +3,7 @@
 import unittest
 
 from tests.helper import (ACKS, BASE, BEGIN, END, FULL, ME, MINE, OTHER_BASE, RESET, THEIRS, THEM, Line, Seen, SideTest,
-                          answered, heard, opened, packed, text)
+                          answered, heard, lines_by_phase, opened, packed, text)
 
 PORTS = (THEIRS, MINE)
 TOP_TIME = 2 ** 62
@@ -11,20 +11,6 @@ WRONG_ADDRESSES = (0, 2 ** 32 - 1, 2 ** 32, 2 ** 64 - 1)
 WRONG_PORTS = (0, 65536, 2 ** 64 - 1)
 WRONG_BASES = (2 ** 32, 2 ** 64 - 1)
 WRONG_TIMES = (TOP_TIME + 1, 2 ** 64 - 1)
-
-
-def lines_by_phase():
-    """A line in each of the phases 1 to 6, at time 1000 at most."""
-    waits = Line()
-    waits.wait()
-    begun = Line()
-    begun.begin()
-    lingers = opened()
-    lingers.close(110)
-    lingers.hear(120, 1, 2, ACKS | END)
-    over = opened()
-    over.hear(110, 1, 1, RESET)
-    return {1: waits, 2: begun, 3: answered(), 4: opened(), 5: lingers, 6: over}
 
 
 class Begin(SideTest):
@@ -53,8 +39,8 @@ class Begin(SideTest):
     def test_phases_that_refuse(self):
         for phase, line in lines_by_phase().items():
             answer = line.begin(now=1000)
-            self.assertEqual(answer.number, 0 if phase == 6 else -4)
-            self.assertEqual(len(answer.sent), 1 if phase == 6 else 0)
+            self.assertEqual(answer.number, 0 if phase in (0, 6) else -4)
+            self.assertEqual(len(answer.sent), 1 if phase in (0, 6) else 0)
 
     def test_wrong_argument_is_refused_ahead_of_phase(self):
         line = Line()
@@ -64,7 +50,7 @@ class Begin(SideTest):
 
     def test_refused_begin_lets_no_time_go_on(self):
         for phase, line in lines_by_phase().items():
-            if phase == 6:
+            if phase in (0, 6):
                 continue
             self.assert_nothing(line.begin(now=10 ** 9), -4)
             self.assert_nothing(line.wait(now=10 ** 9), -4)
@@ -160,7 +146,7 @@ class Wait(SideTest):
 
     def test_phases_that_refuse(self):
         for phase, line in lines_by_phase().items():
-            self.assert_nothing(line.wait(now=1000), 0 if phase == 6 else -4)
+            self.assert_nothing(line.wait(now=1000), 0 if phase in (0, 6) else -4)
 
     def test_wrong_argument_is_refused_ahead_of_phase(self):
         line = Line()

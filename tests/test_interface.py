@@ -39,6 +39,16 @@ class Interface(unittest.TestCase):
         calls = [6, 0, 5, 0, 9, 4, 0, 2, 5, 6, 3, 1, 0, 0, 2, 1, 1, 0, 0, 4, 0, 0]
         self.assertEqual(answers(calls), [2, -4, 0] * 4 + [2, 0, 0] + [2, -4, 0])
 
+    def test_all_eleven_calls_stand_one_behind_another(self):
+        calls = [11, 10, 9, 0, 7, 8, 0, 7, 0, 1, 1, 1, 2, 2, 100, 5, 10, 8, 6, 4, 7, 2, 50, 60, 5, 8, 9, 6, 9, 9, 10, 0,
+                 3, 2, 11, 1, 9, 7, 12, 11, 10, 2, 1, 1, 0, 0, 11]
+        first = [0, 0, 0, 0, 0, 0, 0, 0, 5600, 1048576, 1000, 0, 0, 0, 0, 0]
+        begin = [0, 1, 0, 2, 0, 0, 0, 100, 0, 0, 0, 0, 1, 0, 4, 0, 250, 126, 0, 0]
+        over = [6, 4, 2, 2, 0, 1, 1, 0] + first[8:]
+        expected = [[0] + first + [0], [0, 0], [0, 0], [0, 0], [-4, 0], [0, 1, 2, 20] + begin, [1, 1005, 0], [0, 0], [2, 0],
+                    [0, 0], [0, 0], [0, 0], [-3, 0], [0, 0], [0] + over + [0], [0, 0], [0, 0], [0, 1] + first[1:] + [0]]
+        self.assertEqual(answers(calls), [number for one in expected for number in [len(one)] + one])
+
     def test_what_is_handed_in_stays(self):
         line = opened()
         line.write(200, text(1, 3000))
@@ -65,6 +75,11 @@ class Interface(unittest.TestCase):
         line.read(220)
         line.read(220)
         line.came(20, 220, from_other(0, None, BEGIN, 1024))
+        line.keep(230, 5)
+        line.calls += [10, 11]
+        line.tick(900)
+        line.reset(901)
+        line.calls += [10, 11]
         self.assertEqual({type(one) for one in answers(line.calls)}, {int})
 
     def test_nothing_is_printed(self):

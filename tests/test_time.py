@@ -1,11 +1,11 @@
-"""What time does: lingering, an ack that's due, what's due, askings."""
+"""What time does: lingering, an ack that's due, what's due (askings are tested with keep)."""
 
 import unittest
 
-from streamside.calls import begin_side, close, read, take_come, wait_for_begin, write
+from streamside.calls import begin_side, close, keep_up, take_come, wait_for_begin, write
 from streamside.state import Side
 from tests.helper import (ACKS, BASE, BEGIN, END, FULL, ME, MINE, RESET, THEIRS, THEM, Heard, SideTest, from_other, heard,
-                          opened, text, unpacked)
+                          opened, text)
 
 
 class Due(SideTest):
@@ -171,6 +171,15 @@ class Due(SideTest):
         self.assert_nothing(line.pass_on(2 ** 62 + 1), -1)
 
 
+def kept_up(time):
+    """A side in phase 4 that is kept up; it heard at 100."""
+    side = Side()
+    begin_side(side, ME, MINE, THEM, THEIRS, BASE, 0)
+    take_come(side, THEM, 100, from_other(0, 1, BEGIN | ACKS, FULL))
+    keep_up(side, 100, time)
+    return side
+
+
 class Over(SideTest):
     """What a side knows when it's over, and when it's new."""
 
@@ -259,70 +268,6 @@ class Lingering(SideTest):
         line.close(110)
         line.hear(120, 1, 3, ACKS | END)
         self.assert_nothing(line.read(60119), -6)
-
-
-def kept_up(time):
-    """A side in phase 4 that is kept up; it heard at 100."""
-    side = Side()
-    begin_side(side, ME, MINE, THEM, THEIRS, BASE, 0)
-    take_come(side, THEM, 100, from_other(0, 1, BEGIN | ACKS, FULL))
-    side.kept = time
-    return side
-
-
-class Askings(SideTest):
-    def sent_by(self, side, call, *numbers):
-        side.out = []
-        call(side, *numbers)
-        return [heard(unpacked(ME, to, raw)) for to, raw in side.out]
-
-    def test_five_askings(self):
-        side = kept_up(5000)
-        self.assertEqual(self.sent_by(side, read, 5099, 0), [])
-        time = 5100
-        for _ in range(5):
-            self.assertEqual(self.sent_by(side, read, time - 1, 0), [])
-            self.assertEqual(self.sent_by(side, read, time, 0), [Heard(0, 1, ACKS, FULL, [], b"")])
-            time += 10000
-        self.assertEqual(self.sent_by(side, read, time - 1, 0), [])
-        self.assertEqual(side.phase, 4)
-        self.assertEqual(self.sent_by(side, read, time, 0), [])
-        self.assertEqual((side.phase, side.why), (6, 3))
-
-    def test_what_fits_is_heard(self):
-        side = kept_up(5000)
-        self.sent_by(side, read, 5100, 0)
-        self.sent_by(side, read, 15100, 0)
-        self.assertEqual(self.sent_by(side, take_come, THEM, 15200, from_other(1, 1)), [])
-        self.assertEqual(self.sent_by(side, read, 20199, 0), [])
-        self.assertEqual(len(self.sent_by(side, read, 20200, 0)), 1)
-
-    def test_what_does_not_fit_is_not_heard(self):
-        side = kept_up(5000)
-        self.sent_by(side, take_come, THEM, 4000, from_other(0, 1))
-        self.assertEqual(len(self.sent_by(side, read, 5100, 0)), 1)
-
-    def test_not_while_something_is_on_its_way(self):
-        side = kept_up(5000)
-        self.sent_by(side, write, 5000, [1, 2, 3])
-        self.assertEqual([one.data for one in self.sent_by(side, read, 5300, 0)], [bytes([1, 2, 3])])
-
-    def test_not_unless_it_is_kept_up(self):
-        side = kept_up(0)
-        self.assertEqual(self.sent_by(side, read, 10 ** 8, 0), [])
-
-    def test_in_phase_4_alone(self):
-        side = kept_up(5000)
-        self.sent_by(side, close, 110)
-        self.sent_by(side, take_come, THEM, 120, from_other(1, 2, ACKS | END))
-        self.assertEqual(side.phase, 5)
-        self.assertEqual(self.sent_by(side, read, 50000, 0), [])
-
-    def test_from_the_place_before_top(self):
-        side = kept_up(5000)
-        self.sent_by(side, write, 200, list(text(1, 9)))
-        self.sent_by(side, take_come, THEM, 300, from_other(1, 10))
-        self.assertEqual([one.place for one in self.sent_by(side, read, 5300, 0)], [9])
 
 
 if __name__ == "__main__":

@@ -4,8 +4,8 @@ import unittest
 
 from streamside.calls import write
 from streamside.state import Side
-from tests.helper import ACKS, BEGIN, END, FULL, RESET, Heard, Line, SideTest, answered, heard, opened, text
-from tests.test_begin import lines_by_phase
+from tests.helper import (ACKS, BEGIN, END, FULL, RESET, Heard, Line, SideTest, answered, heard, lines_by_phase, opened,
+                          text)
 
 WRONG_TIMES = (2 ** 62 + 1, 2 ** 64 - 1)
 EDGE = 65537
@@ -15,8 +15,7 @@ class Write(SideTest):
     """Promise 4."""
 
     def test_refusals(self):
-        self.assert_nothing(Line().write(0, b"a"), -4)
-        expected = {1: -4, 2: 1, 3: 1, 4: 1, 5: -6, 6: -6}
+        expected = {0: -4, 1: -4, 2: 1, 3: 1, 4: 1, 5: -6, 6: -6}
         for phase, line in lines_by_phase().items():
             for now in WRONG_TIMES:
                 self.assert_nothing(line.write(now, b"a"), -1)
@@ -134,8 +133,7 @@ class Read(SideTest):
     """Promise 5."""
 
     def test_refusals(self):
-        self.assert_nothing(Line().read(0), -4)
-        expected = {1: -4, 2: 0, 3: 0, 4: 0, 5: -6, 6: -6}
+        expected = {0: -4, 1: -4, 2: 0, 3: 0, 4: 0, 5: -6, 6: -6}
         for phase, line in lines_by_phase().items():
             for now in WRONG_TIMES:
                 self.assert_nothing(line.read(now), -1)
@@ -242,13 +240,12 @@ class Close(SideTest):
     """Promise 6."""
 
     def test_refusals(self):
-        self.assert_nothing(Line().close(0), -4)
-        expected = {1: -4, 2: 0, 3: 0, 4: 0, 5: -6, 6: -6}
+        expected = {0: -4, 1: -4, 2: 0, 3: 0, 4: 0, 5: -6, 6: -6}
         for phase, line in lines_by_phase().items():
             for now in WRONG_TIMES:
                 self.assert_nothing(line.close(now), -1)
             self.assertEqual(line.close(200).number, expected[phase])
-            self.assert_nothing(line.close(200), -4 if phase == 1 else -6)
+            self.assert_nothing(line.close(200), -4 if phase in (0, 1) else -6)
 
     def test_edges_of_time(self):
         self.assert_nothing(Line().close(2 ** 62), -4)
