@@ -2,6 +2,7 @@
 
 import unittest
 
+from streamside.acking import pace_after
 from streamside.state import Side
 from tests.helper import ACKS, BEGIN, END, FULL, Line, SideTest, opened, text
 
@@ -211,6 +212,12 @@ class Wide(SideTest):
         self.assertEqual(side.wide, 1048576)
         side.widen(1)
         self.assertEqual(side.wide, 1048576)
+
+    def test_a_wide_one_gets_one(self):
+        side = Side()
+        side.wide, side.slow = 1040000, 2800
+        pace_after(side, 1400)
+        self.assertEqual(side.wide, 1040001)
 
 
 class Mending(SideTest):
